@@ -1,0 +1,1 @@
+"""Outlasts: how long things last, from watched and cut-off spans."""

@@ -1,0 +1,82 @@
+"""Reckoning with fractions: tuples (top, bottom) in lowest terms, bottom above 0.
+
+Plain tuples are what the program tells, so nothing has to be turned on the way in or out.
+"""
+
+NOUGHT = (0, 1)
+WHOLE = (1, 1)
+
+
+def is_whole(thing):
+    """Tell of anything whether it is a whole number: an int that is no truth."""
+    return isinstance(thing, int) and not isinstance(thing, bool)
+
+
+def is_fraction(thing):
+    """Tell of anything whether it is a fraction."""
+    if not isinstance(thing, tuple) or len(thing) != 2:
+        return False
+    top, bottom = thing
+    if not is_whole(top) or not is_whole(bottom):
+        return False
+    return bottom > 0 and common_divisor(top, bottom) == 1
+
+
+def common_divisor(one, other):
+    """Tell the greatest common divisor of two whole numbers, 0 where both are 0."""
+    divisor, rest = abs(one), abs(other)
+    while rest != 0:
+        divisor, rest = rest, divisor % rest
+    return divisor
+
+
+def lowest(top, bottom):
+    """Tell top divided by bottom, two whole numbers, as a fraction."""
+    # Without this a bottom of 0 would come out as (1, 0), which looks like a fraction.
+    if bottom == 0:
+        raise ZeroDivisionError("a fraction with bottom 0")
+    divisor = common_divisor(top, bottom)
+    if bottom < 0:
+        divisor = -divisor
+    return (top // divisor, bottom // divisor)
+
+
+def plus(one, other):
+    """Tell the sum of two fractions."""
+    return lowest(one[0] * other[1] + other[0] * one[1], one[1] * other[1])
+
+
+def minus(one, other):
+    """Tell the first fraction less the second."""
+    return lowest(one[0] * other[1] - other[0] * one[1], one[1] * other[1])
+
+
+def product(one, other):
+    """Tell the product of two fractions."""
+    return lowest(one[0] * other[0], one[1] * other[1])
+
+
+def quotient(one, other):
+    """Tell the first fraction divided by the second, which is not 0."""
+    return lowest(one[0] * other[1], one[1] * other[0])
+
+
+def power(fraction, often):
+    """Tell the product of a fraction as often as told, 1 for no times."""
+    worth = WHOLE
+    for step in range(often):
+        worth = product(worth, fraction)
+    return worth
+
+
+def total(terms):
+    """Tell the sum of a list of fractions, 0 of none."""
+    worth = NOUGHT
+    for term in terms:
+        worth = plus(worth, term)
+    return worth
+
+
+def is_less(one, other):
+    """Tell whether the first fraction is less than the second."""
+    return one[0] * other[1] < other[0] * one[1]

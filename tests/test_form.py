@@ -1,0 +1,125 @@
+"""The form of the package's files, as far as a small test can see it: rules of LANGUAGE.md by their numbers."""
+
+import ast
+import re
+import unittest
+from pathlib import Path
+
+PACKAGE = Path(__file__).resolve().parent.parent / "outlasts"
+BUILTINS = set(
+    "len range enumerate zip min max sum abs sorted reversed int str bool list tuple dict set isinstance ord repr any"
+    " all divmod Exception ValueError TypeError KeyError IndexError LookupError ZeroDivisionError ArithmeticError"
+    " OverflowError RuntimeError NotImplementedError NotImplemented super property staticmethod classmethod".split()
+)
+BARRED = (
+    r"\b(type|typing|typing_extensions|enum|Enum|IntEnum|StrEnum|Flag|IntFlag|Generic|Protocol|ABC|ABCMeta|namedtuple"
+    r"|NamedTuple|TypedDict|TYPE_CHECKING|abstractmethod)\b|dataclass|overload|contextmanager"
+)
+SPECIAL = re.compile(r"__[a-z]+__")
+
+
+def files():
+    return sorted(path for path in PACKAGE.rglob("*") if "__pycache__" not in path.parts)
+
+
+def trees():
+    return [(path, ast.parse(path.read_text())) for path in files() if path.is_file()]
+
+
+def nodes(*kinds):
+    return [(path, node) for path, tree in trees() for node in ast.walk(tree) if isinstance(node, kinds)]
+
+
+def bound_at_module_level(tree):
+    names = []
+    for row in tree.body:
+        if isinstance(row, (ast.FunctionDef, ast.ClassDef)):
+            names.append(row.name)
+        elif isinstance(row, ast.ImportFrom):
+            names.extend(alias.asname or alias.name for alias in row.names)
+        elif isinstance(row, ast.Assign):
+            names.extend(target.id for target in row.targets)
+    return names
+
+
+class Form(unittest.TestCase):
+    def test_l1_l14_files(self):
+        self.assertIn(PACKAGE / "__init__.py", files())
+        for path in files():
+            self.assertTrue(path.is_file() and re.fullmatch(r"[a-z0-9_]+\.py", path.name), path)
+            self.assertTrue(set(path.read_bytes()) <= {10, *range(32, 127)}, path)
+
+    def test_l10_size(self):
+        for path in files():
+            lines = path.read_text().split("\n")
+            self.assertLessEqual(len(lines), 400, path)
+            self.assertLessEqual(max(map(len, lines)), 120, path)
+        for path, node in nodes(ast.FunctionDef):
+            self.assertLessEqual(node.end_lineno - node.lineno + 1, 40, (path, node.name))
+
+    def test_l2_l16_imports(self):
+        self.assertEqual(nodes(ast.Import), [])
+        defined = {f"outlasts.{path.stem}": tree for path, tree in trees()}
+        for path, node in nodes(ast.ImportFrom):
+            self.assertEqual((node.level, node.col_offset), (0, 0), path)
+            own = [row.name for row in defined[node.module].body if isinstance(row, (ast.FunctionDef, ast.ClassDef))]
+            values = [name for row in defined[node.module].body if isinstance(row, ast.Assign)
+                      for name in bound_at_module_level(ast.Module([row], []))]
+            for alias in node.names:
+                self.assertIn(alias.name, own + values, (path, alias.name))
+
+    def test_l3_l15_module_level(self):
+        plain = (ast.ImportFrom, ast.FunctionDef, ast.ClassDef, ast.Assign)
+        for path, tree in trees():
+            self.assertIsNotNone(ast.get_docstring(tree), path)
+            for row in tree.body[1:]:
+                self.assertIsInstance(row, plain, path)
+            names = bound_at_module_level(tree)
+            self.assertEqual(len(names), len(set(names)), path)
+
+    def test_l6_l7_what_is_not_used(self):
+        barred = (ast.Global, ast.AsyncFunctionDef, ast.AsyncFor, ast.AsyncWith, ast.Await, ast.Div, ast.MatMult)
+        self.assertEqual(nodes(*barred), [])
+        for path, node in nodes(ast.Constant):
+            self.assertNotIsInstance(node.value, (float, complex), path)
+            if isinstance(node.value, str):
+                self.assertNotIn("%", node.value, path)
+
+    def test_l7_no_generator_expressions(self):
+        # A class with == or len bars them from any, all, sum and the like; lists do everywhere.
+        self.assertEqual(nodes(ast.GeneratorExp), [])
+
+    def test_l8_builtins(self):
+        for path, tree in trees():
+            stored = {node.id for node in ast.walk(tree) if isinstance(node, ast.Name)
+                      and not isinstance(node.ctx, ast.Load)}
+            taken = {node.arg for node in ast.walk(tree) if isinstance(node, ast.arg)}
+            known = BUILTINS | stored | taken | set(bound_at_module_level(tree))
+            self.assertEqual((stored | taken) & BUILTINS, set(), path)
+            for node in ast.walk(tree):
+                if isinstance(node, ast.Name):
+                    self.assertIn(node.id, known, (path, node.lineno))
+
+    def test_l12_plain_names(self):
+        for path, node in nodes(ast.Name, ast.arg, ast.FunctionDef, ast.ClassDef, ast.Attribute):
+            name = getattr(node, "id", None) or getattr(node, "arg", None) or getattr(node, "attr", None) or node.name
+            self.assertTrue(not name.startswith("_") or SPECIAL.fullmatch(name), (path, name))
+
+    def test_l17_words(self):
+        for path in files():
+            self.assertIsNone(re.search(BARRED, path.read_text()), path)
+
+    def test_l20_is(self):
+        for path, node in nodes(ast.Compare):
+            for sign, right in zip(node.ops, node.comparators):
+                if isinstance(sign, (ast.Is, ast.IsNot)):
+                    self.assertTrue(isinstance(right, ast.Constant) and right.value in (None, True, False), path)
+
+    def test_every_function_says_what_it_tells(self):
+        for path, node in nodes(ast.FunctionDef, ast.ClassDef):
+            if not SPECIAL.fullmatch(node.name):
+                self.assertIsNotNone(ast.get_docstring(node), (path, node.name))
+
+
+if __name__ == "__main__":
+    unittest.main()
