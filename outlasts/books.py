@@ -1,6 +1,6 @@
 """Spans, books and times; who is watched at a time, and the rows of a book."""
 
-from outlasts.errors import NoBook, NoTime
+from outlasts.errors import NoBook, NoKind, NoPlain, NoTime
 from outlasts.fractions import is_whole
 
 LAST_UNTIL = 999
@@ -33,16 +33,34 @@ def is_time(thing):
     return is_whole(thing) and 0 <= thing <= LAST_TIME
 
 
+def is_kind(thing):
+    """Tell of anything whether it is a kind of end."""
+    return is_whole(thing) and thing in KINDS
+
+
 def check_book(book):
     """Refuse what is no book."""
     if not is_book(book):
         raise NoBook()
 
 
+def check_plain(book):
+    """Refuse what is no book, and then a book whose begins are not all 0."""
+    check_book(book)
+    if any([begin != 0 for begin, until, end in book]):
+        raise NoPlain()
+
+
 def check_time(time):
     """Refuse what is no time."""
     if not is_time(time):
         raise NoTime()
+
+
+def check_kind(end):
+    """Refuse what is no kind of end."""
+    if not is_kind(end):
+        raise NoKind()
 
 
 def watched(book, time):
@@ -72,3 +90,12 @@ def count_ends(book, time):
 def end_times(book):
     """Tell the times at which some end, each once, rising."""
     return sorted(set([until for begin, until, end in book if end != CUT_OFF]))
+
+
+def last_upto(steps, time, ahead):
+    """Tell what stands at the last time not above this one in a rising list of (time, worth), ahead where none is."""
+    last = ahead
+    for at, worth in steps:
+        if at <= time:
+            last = worth
+    return last

@@ -22,6 +22,11 @@ def is_fraction(thing):
     return bottom > 0 and common_divisor(top, bottom) == 1
 
 
+def is_part(thing):
+    """Tell of anything whether it is a fraction from 0 to 1."""
+    return is_fraction(thing) and 0 <= thing[0] <= thing[1]
+
+
 def common_divisor(one, other):
     """Tell the greatest common divisor of two whole numbers, 0 where both are 0."""
     divisor, rest = abs(one), abs(other)
@@ -63,10 +68,11 @@ def quotient(one, other):
 
 def power(fraction, often):
     """Tell the product of a fraction as often as told, 1 for no times."""
-    worth = WHOLE
+    # A fraction in lowest terms stays so when it is multiplied by itself, so there is nothing to divide out.
+    top, bottom = WHOLE
     for step in range(often):
-        worth = product(worth, fraction)
-    return worth
+        top, bottom = top * fraction[0], bottom * fraction[1]
+    return (top, bottom)
 
 
 def total(terms):
@@ -75,6 +81,15 @@ def total(terms):
     for term in terms:
         worth = plus(worth, term)
     return worth
+
+
+def product_of(terms):
+    """Tell the product of a list of fractions, 1 of none."""
+    top, bottom = WHOLE
+    for term in terms:
+        top, bottom = top * term[0], bottom * term[1]
+    # Once at the end: dividing out is what takes long where the terms are many and big.
+    return lowest(top, bottom)
 
 
 def is_less(one, other):

@@ -1,6 +1,7 @@
 """The form of the package's files, as far as a small test can see it: rules of LANGUAGE.md by their numbers."""
 
 import ast
+import builtins
 import re
 import unittest
 from pathlib import Path
@@ -76,6 +77,36 @@ class Form(unittest.TestCase):
                 self.assertIsInstance(row, plain, path)
             names = bound_at_module_level(tree)
             self.assertEqual(len(names), len(set(names)), path)
+
+    def test_l15_locals_have_names_of_their_own(self):
+        for path, tree in trees():
+            taken = set(dir(builtins))
+            for row in tree.body:
+                if isinstance(row, (ast.ImportFrom, ast.ClassDef)):
+                    taken.update(bound_at_module_level(ast.Module([row], [])))
+            for node in ast.walk(tree):
+                if isinstance(node, ast.arg):
+                    self.assertNotIn(node.arg, taken, (path, node.lineno))
+                elif isinstance(node, ast.Name) and not isinstance(node.ctx, ast.Load):
+                    self.assertNotIn(node.id, taken, (path, node.lineno))
+
+    def test_l16_no_two_files_import_from_each_other(self):
+        reached = {path.stem: {node.module.rpartition(".")[2] for node in ast.walk(tree)
+                               if isinstance(node, ast.ImportFrom)} for path, tree in trees()}
+        for _ in reached:
+            reached = {name: near.union(*[reached[other] for other in near]) for name, near in reached.items()}
+        for name, far in reached.items():
+            self.assertNotIn(name, far)
+
+    def test_l23_what_is_iterated_at_once(self):
+        lazy = ("zip", "enumerate", "reversed", "range", "items", "keys", "values")
+        for path, tree in trees():
+            at_once = {id(node.iter) for node in ast.walk(tree) if isinstance(node, (ast.For, ast.comprehension))}
+            at_once |= {id(part) for node in ast.walk(tree) if isinstance(node, ast.Call) for part in node.args}
+            for node in ast.walk(tree):
+                if isinstance(node, ast.Call):
+                    name = getattr(node.func, "id", None) or getattr(node.func, "attr", None)
+                    self.assertTrue(name not in lazy or id(node) in at_once, (path, node.lineno))
 
     def test_l6_l7_what_is_not_used(self):
         barred = (ast.Global, ast.AsyncFunctionDef, ast.AsyncFor, ast.AsyncWith, ast.Await, ast.Div, ast.MatMult)

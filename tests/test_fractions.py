@@ -6,7 +6,7 @@ from itertools import product as pairs
 from math import gcd
 
 from outlasts import fractions
-from things import odd_things
+from things import bad_fractions, odd_things
 
 SOME = [
     fractions.lowest(top, bottom)
@@ -36,6 +36,14 @@ class Kinds(unittest.TestCase):
         ]
         for thing in wrong + odd_things():
             self.assertIs(fractions.is_fraction(thing), False, thing)
+
+    def test_parts(self):
+        for thing in ((0, 1), (1, 1), (1, 2), (11, 12), (999_999_999_998, 999_999_999_999), (1, 10 ** 300)):
+            self.assertIs(fractions.is_part(thing), True, thing)
+
+    def test_no_parts(self):
+        for thing in bad_fractions() + [(1_000_000_000_000, 999_999_999_999), (-1, 10 ** 300)]:
+            self.assertIs(fractions.is_part(thing), False, thing)
 
 
 class Reckoning(unittest.TestCase):
@@ -91,10 +99,19 @@ class Reckoning(unittest.TestCase):
             wanted = sum((Fraction(*one) for one in SOME[:upto]), Fraction(0))
             self.assert_told(fractions.total(SOME[:upto]), wanted)
 
-    def test_total_leaves_its_list_alone(self):
-        terms = [(1, 2), (1, 3)]
-        self.assertEqual(fractions.total(terms), (5, 6))
-        self.assertEqual(terms, [(1, 2), (1, 3)])
+    def test_product_of(self):
+        wanted = Fraction(1)
+        some = [one for one in SOME if one[0] != 0] + [(0, 1), (1, 2)]
+        for upto, one in enumerate(some):
+            self.assert_told(fractions.product_of(some[:upto]), wanted)
+            wanted *= Fraction(*one)
+        self.assert_told(fractions.product_of(some), Fraction(0))
+
+    def test_total_and_product_of_leave_their_list_alone(self):
+        terms = [(1, 2), (2, 3)]
+        self.assertEqual(fractions.total(terms), (7, 6))
+        self.assertEqual(fractions.product_of(terms), (1, 3))
+        self.assertEqual(terms, [(1, 2), (2, 3)])
 
     def test_named_ones(self):
         self.assertEqual((fractions.NOUGHT, fractions.WHOLE), ((0, 1), (1, 1)))

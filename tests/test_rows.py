@@ -1,25 +1,12 @@
 """Point [11]: how many are watched at a time, and the rows of a book; what is refused [4]."""
 
 import unittest
-from copy import deepcopy
 from itertools import permutations
 from random import Random
 
 from outlasts.books import rows, watched
-from outlasts.errors import NoBook, NoTime, SpanError
-from things import odd_things
-
-LATE = ((0, 5, 1), (2, 5, 0), (5, 9, 2), (4, 5, 3), (6, 9, 0))
-BAD_TIMES = [-1, -9_999, 10_000, 999_999_999_999, -999_999_999_999, "3", (3,), [3]]
-
-
-def random_book(source):
-    """A small book with many alike times, so that ends, cut-offs and begins often meet."""
-    spans = []
-    for _ in range(source.randint(1, 12)):
-        begin = source.choice((0, 0, source.randint(0, 6)))
-        spans.append((begin, begin + source.randint(1, 6), source.choice((0, 0, 1, 2, 3, 4))))
-    return tuple(spans)
+from outlasts.errors import NoBook, NoTime
+from things import LATE, Asked, bad_books, bad_times, random_book
 
 
 def plain_watched(book, time):
@@ -147,32 +134,20 @@ class Rows(unittest.TestCase):
         self.assertEqual(rows(book=LATE), rows(LATE))
 
 
-class Refusals(unittest.TestCase):
-    def assert_refused(self, error, deed, *handed):
-        """Refused by just this class, and nothing that was handed in is changed."""
-        before = repr(deepcopy(handed))
-        with self.assertRaises(SpanError) as caught:
-            deed(*handed)
-        self.assertIs(type(caught.exception), error, handed)
-        self.assertEqual(repr(handed), before)
-
-    def bad_books(self):
-        bad = [((0, 7, 1),) * 41, ((0, 7, 1), (7, 7, 1)), ((0, 7, True),), ((0, 1000, 1),), (0, 7, 1), 0, 7]
-        return bad + odd_things()
-
+class Refusals(Asked):
     def test_no_book(self):
-        for book in self.bad_books():
+        for book in bad_books():
             with self.subTest(book=book):
                 self.assert_refused(NoBook, rows, book)
                 self.assert_refused(NoBook, watched, book, 3)
 
     def test_no_time(self):
-        for time in BAD_TIMES + odd_things():
+        for time in bad_times():
             with self.subTest(time=time):
                 self.assert_refused(NoTime, watched, LATE, time)
 
     def test_no_book_ahead_of_no_time(self):
-        for book in self.bad_books():
+        for book in bad_books():
             for time in (-1, 10_000, True, None, "3"):
                 with self.subTest(book=book, time=time):
                     self.assert_refused(NoBook, watched, book, time)
