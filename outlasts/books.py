@@ -44,10 +44,15 @@ def check_book(book):
         raise NoBook()
 
 
+def is_plain(book):
+    """Tell whether the begins of a book are all 0."""
+    return all([begin == 0 for begin, until, end in book])
+
+
 def check_plain(book):
-    """Refuse what is no book, and then a book whose begins are not all 0."""
+    """Refuse what is no book, and then a book that isn't plain."""
     check_book(book)
-    if any([begin != 0 for begin, until, end in book]):
+    if not is_plain(book):
         raise NoPlain()
 
 

@@ -95,3 +95,11 @@ def product_of(terms):
 def is_less(one, other):
     """Tell whether the first fraction is less than the second."""
     return one[0] * other[1] < other[0] * one[1]
+
+
+def over_one_bottom(terms):
+    """Tell (tops, bottom) of a list of fractions: the tops that they have over one bottom."""
+    bottom = 1
+    for term in terms:
+        bottom = bottom // common_divisor(bottom, term[1]) * term[1]
+    return ([top * (bottom // part) for top, part in terms], bottom)

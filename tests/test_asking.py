@@ -5,13 +5,15 @@ from copy import deepcopy
 from inspect import signature
 from itertools import permutations
 
-from outlasts import handing, kinds, rates, shares
+from outlasts import bands, dealings, handing, kinds, lots, rates, shares
 from outlasts.books import is_book
 from outlasts.errors import NoBook, NoTime
 from outlasts.fractions import is_fraction
-from things import CUT, PLAIN, Asked, bad_books, bad_times, late_forties, plain_forties
+from things import CUT, PLAIN, WORDS, Asked, bad_books, bad_times, late_forties, plain_forties
 
 HALF = (1, 2)
+MARKS = (0, 1, 0, 0, 1)
+FULL = ((0, 9, 1), (0, 3, 4), (0, 5, 2), (0, 3, 1))
 # Each function with what is handed in by its names in the interface's order, all of them answered.
 CALLS = [
     (shares.share_at, {"book": PLAIN, "time": 5}),
@@ -30,6 +32,13 @@ CALLS = [
     (kinds.came_at, {"book": PLAIN, "end": 2, "time": 9}),
     (kinds.alone, {"book": PLAIN, "end": 2}),
     (kinds.one_kind, {"book": PLAIN}),
+    (lots.due, {"book": PLAIN, "marks": MARKS}),
+    (lots.score, {"book": PLAIN, "marks": MARKS, "weighting": "many"}),
+    (lots.spread, {"book": PLAIN, "marks": MARKS, "weighting": "many"}),
+    (dealings.dealings, {"book": PLAIN, "marks": MARKS, "weighting": "many"}),
+    (dealings.as_far, {"book": PLAIN, "marks": MARKS, "weighting": "many"}),
+    (dealings.farthest, {"book": PLAIN, "marks": MARKS, "weighting": "many"}),
+    (bands.band, {"book": FULL, "share": HALF, "sure": (3, 8)}),
 ]
 ANSWERS = [
     (3, 4), [(5, (3, 4)), (9, (0, 1))], 9, (5, 1), (3, 64), (1, 32), ((3, 4), (0, 1)),
@@ -38,8 +47,15 @@ ANSWERS = [
      (4, 3, (3, 8))],
     False, [(5, (1, 4)), (9, (5, 4))], (1, 4), [(5, (0, 1)), (9, (3, 4))], (3, 4),
     ((0, 3, 0), (0, 5, 0), (0, 5, 0), (0, 9, 2), (0, 7, 0)), ((0, 3, 0), (0, 5, 1), (0, 5, 0), (0, 9, 1), (0, 7, 0)),
+    (1, HALF), (2, 1), (4, 1), [((-2, 1), 3), ((-1, 1), 3), ((2, 1), 3), ((3, 1), 1)], (7, 10), (1, 1, 0, 0, 0),
+    (3, 5, 2, 3),
 ]
-LISTS = [shares.shares, handing.weights, handing.parcels, rates.rates, lambda book: kinds.came(book, 1)]
+LISTS = [
+    shares.shares, handing.weights, handing.parcels, rates.rates, lambda book: kinds.came(book, 1),
+    lambda book: dealings.dealings(book * 2, (0, 1) * len(book)),
+]
+# These want a book of another sort than all others, or what is handed in beside it hangs on the book.
+BY_THEMSELVES = (shares.worth, handing.weights, handing.parcels, handing.are_parcels, bands.band)
 
 
 class Calls(Asked):
@@ -128,8 +144,13 @@ class Forty(Asked):
             self.assertIs(is_fraction(shares.worth(book, parts)), True)
             self.assertIs(is_book(kinds.one_kind(book)), True)
             for deed, handed in CALLS:
-                if deed.__module__ != "outlasts.handing" and deed != shares.worth:
-                    deed(**{**handed, "book": book})
+                if deed not in BY_THEMSELVES and deed.__module__ != "outlasts.dealings":
+                    deed(**{**handed, "book": book, **({"marks": MARKS * 8} if "marks" in handed else {})})
+            for word in WORDS:
+                self.assertIs(is_fraction(lots.score(book, MARKS * 8, word)), True)
+                self.assertIs(is_fraction(lots.spread(book, MARKS * 8, word)), True)
+        self.assertEqual(bands.band(FULL * 10, HALF, (1, 1)), None)
+        self.assertEqual(bands.band(FULL * 10, HALF, HALF), (3, 5, 17, 22))
         for book in plain_forties():
             self.assertEqual(len(handing.weights(book)), 40)
             self.assertIs(handing.are_parcels(book, tuple(handing.parcels(book))), True)

@@ -113,6 +113,13 @@ class Reckoning(unittest.TestCase):
         self.assertEqual(fractions.product_of(terms), (1, 3))
         self.assertEqual(terms, [(1, 2), (2, 3)])
 
+    def test_over_one_bottom(self):
+        self.assertEqual(fractions.over_one_bottom([]), ([], 1))
+        self.assertEqual(fractions.over_one_bottom([(1, 6), (-3, 4), (0, 1), (2, 1)]), ([2, -9, 0, 24], 12))
+        for upto in range(len(SOME) + 1):
+            tops, bottom = fractions.over_one_bottom(SOME[:upto])
+            self.assertEqual([Fraction(top, bottom) for top in tops], [Fraction(*one) for one in SOME[:upto]])
+
     def test_named_ones(self):
         self.assertEqual((fractions.NOUGHT, fractions.WHOLE), ((0, 1), (1, 1)))
 

@@ -15,6 +15,8 @@ GAP = ((0, 3, 1), (0, 3, 2), (5, 9, 1), (6, 9, 0))
 CUT = ((0, 7, 0), (3, 9, 0), (0, 7, 0))
 # A plain one, in which some are cut off ahead of, at and between the ends.
 PLAIN = ((0, 3, 0), (0, 5, 1), (0, 5, 0), (0, 9, 2), (0, 7, 0))
+# The weightings.
+WORDS = ("one", "many", "share")
 
 
 def deep(levels):
@@ -57,6 +59,33 @@ def bad_fractions():
         [1, 2], (True, 2), (1, True), (False, 1), (True, True), (0, True), (1,), (1, 2, 3), (1, 2, None), ("1", "2"),
         ((1, 2),), (None, 1), (0, None), 0, 1, 2, -1, "1/2", "0", "1",
     ] + odd_things()
+
+
+def bad_marks(book):
+    """Things that are no marks of a book."""
+    many = len(book)
+    good = (1,) + (0,) * (many - 1)
+    return [
+        (0,) * many, (1,) * many, (), good + (0,), good + (1,), good[:-1], good[1:], list(good), [good], (good,),
+        dict(enumerate(good)), good[:-1] + (2,), good[:-1] + (-1,), (2,) + good[1:], good[:-1] + (False,),
+        (True,) + good[1:], (True,) + (False,) * (many - 1), good[:-1] + (None,), good[:-1] + ("0",),
+        good[:-1] + ((0,),), good[:-1] + ([],), "10000"[:many], 0, 1, 10_000, {1: 0},
+    ] + odd_things()
+
+
+def bad_words():
+    """Things that are no weighting."""
+    return [
+        "One", "ONE", "Many", "SHARE", "on", "ones", " one", "one ", "one\n", "onemany", "o", "none", "1", "shares",
+        0, 1, -1, 3, ["one"], ("one",), {"one": 1}, {"one": "one"}, ("one", "many", "share"),
+    ] + odd_things()
+
+
+def random_marks(source, book):
+    """Marks of a book of two spans or more, each of 0 and 1 at least once."""
+    marks = [0, 1] + [source.randint(0, 1) for _ in book[2:]]
+    source.shuffle(marks)
+    return tuple(marks)
 
 
 def random_book(source):
