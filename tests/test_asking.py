@@ -5,7 +5,7 @@ from copy import deepcopy
 from inspect import signature
 from itertools import permutations
 
-from outlasts import bands, dealings, handing, kinds, lots, rates, shares
+from outlasts import bands, dealings, handing, kinds, lots, rates, shares, texts, truths
 from outlasts.books import is_book
 from outlasts.errors import NoBook, NoTime
 from outlasts.fractions import is_fraction
@@ -14,6 +14,8 @@ from things import CUT, PLAIN, WORDS, Asked, bad_books, bad_times, late_forties,
 HALF = (1, 2)
 MARKS = (0, 1, 0, 0, 1)
 FULL = ((0, 9, 1), (0, 3, 4), (0, 5, 2), (0, 3, 1))
+SOON = ((0, 4, 1), (0, 5, 1), (0, 6, 1), (0, 9, 2), (0, 8, 1))
+LATE = ((0, 2_000, 1), (0, 5, 1), (0, 2_000, 1), (0, 9, 2), (0, 2_000, 1))
 # Each function with what is handed in by its names in the interface's order, all of them answered.
 CALLS = [
     (shares.share_at, {"book": PLAIN, "time": 5}),
@@ -39,6 +41,16 @@ CALLS = [
     (dealings.as_far, {"book": PLAIN, "marks": MARKS, "weighting": "many"}),
     (dealings.farthest, {"book": PLAIN, "marks": MARKS, "weighting": "many"}),
     (bands.band, {"book": FULL, "share": HALF, "sure": (3, 8)}),
+    (truths.is_truth, {"book": PLAIN, "thing": SOON}),
+    (truths.bounds, {"book": PLAIN, "time": 5}),
+    (truths.soonest, {"book": PLAIN}),
+    (truths.latest, {"book": PLAIN}),
+    (truths.may_outlast, {"one": PLAIN, "other": FULL}),
+    (truths.must_outlast, {"one": PLAIN, "other": FULL}),
+    (truths.shows_may, {"one": PLAIN, "other": FULL, "thing": (LATE, FULL)}),
+    (truths.shows_never, {"one": FULL, "other": PLAIN, "thing": 3}),
+    (truths.shows_not, {"one": FULL, "other": PLAIN, "thing": (FULL, SOON)}),
+    (texts.book_text, {"book": PLAIN}),
 ]
 ANSWERS = [
     (3, 4), [(5, (3, 4)), (9, (0, 1))], 9, (5, 1), (3, 64), (1, 32), ((3, 4), (0, 1)),
@@ -48,14 +60,15 @@ ANSWERS = [
     False, [(5, (1, 4)), (9, (5, 4))], (1, 4), [(5, (0, 1)), (9, (3, 4))], (3, 4),
     ((0, 3, 0), (0, 5, 0), (0, 5, 0), (0, 9, 2), (0, 7, 0)), ((0, 3, 0), (0, 5, 1), (0, 5, 0), (0, 9, 1), (0, 7, 0)),
     (1, HALF), (2, 1), (4, 1), [((-2, 1), 3), ((-1, 1), 3), ((2, 1), 3), ((3, 1), 1)], (7, 10), (1, 1, 0, 0, 0),
-    (3, 5, 2, 3),
+    (3, 5, 2, 3), True, ((3, 5), (4, 5)), SOON, LATE, ("may", LATE, FULL), ("not", SOON, FULL, 8),
+    True, True, True, "0-3 0-5!1 0-5 0-9!2 0-7",
 ]
 LISTS = [
     shares.shares, handing.weights, handing.parcels, rates.rates, lambda book: kinds.came(book, 1),
     lambda book: dealings.dealings(book * 2, (0, 1) * len(book)),
 ]
 # These want a book of another sort than all others, or what is handed in beside it hangs on the book.
-BY_THEMSELVES = (shares.worth, handing.weights, handing.parcels, handing.are_parcels, bands.band)
+BY_THEMSELVES = ("outlasts.handing", "outlasts.dealings", "outlasts.bands", "outlasts.truths")
 
 
 class Calls(Asked):
@@ -128,7 +141,8 @@ class Refusals(Asked):
             if "time" in handed:
                 for time in (0, 1, 9_998, 9_999):
                     told = deed(**{**handed, "time": time})
-                    self.assertTrue(told is None or is_fraction(told))
+                    parts = told if deed == truths.bounds else [told]
+                    self.assertTrue(told is None or all(is_fraction(part) for part in parts))
 
     def test_refused_by_name_in_another_order(self):
         with self.assertRaises(NoBook):
@@ -144,7 +158,7 @@ class Forty(Asked):
             self.assertIs(is_fraction(shares.worth(book, parts)), True)
             self.assertIs(is_book(kinds.one_kind(book)), True)
             for deed, handed in CALLS:
-                if deed not in BY_THEMSELVES and deed.__module__ != "outlasts.dealings":
+                if deed.__module__ not in BY_THEMSELVES and deed != shares.worth:
                     deed(**{**handed, "book": book, **({"marks": MARKS * 8} if "marks" in handed else {})})
             for word in WORDS:
                 self.assertIs(is_fraction(lots.score(book, MARKS * 8, word)), True)
@@ -154,6 +168,14 @@ class Forty(Asked):
         for book in plain_forties():
             self.assertEqual(len(handing.weights(book)), 40)
             self.assertIs(handing.are_parcels(book, tuple(handing.parcels(book))), True)
+            for other in plain_forties():
+                told = truths.may_outlast(book, other)
+                shown = truths.shows_never(book, other, told[1]) or truths.shows_may(book, other, told[1:])
+                self.assertIs(shown, True)
+                told = truths.must_outlast(book, other)
+                self.assertTrue(told == ("must",) or truths.shows_not(book, other, told[1:3]))
+            for time in (0, 7, 999, 2_000):
+                self.assertIs(is_fraction(truths.bounds(book, time)[0]), True)
 
 
 if __name__ == "__main__":

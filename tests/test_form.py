@@ -17,6 +17,13 @@ BARRED = (
     r"|NamedTuple|TypedDict|TYPE_CHECKING|abstractmethod)\b|dataclass|overload|contextmanager"
 )
 SPECIAL = re.compile(r"__[a-z]+__")
+# Of L25, those of both lists.
+OF_VALUES = set(
+    "append clear copy count endswith extend find get index insert isalnum isalpha isdigit islower isspace isupper items"
+    " join keys ljust lower lstrip partition pop remove replace reverse rfind rjust rpartition rsplit rstrip setdefault"
+    " split splitlines startswith strip update upper values zfill bit_length title capitalize swapcase casefold center"
+    " expandtabs removeprefix removesuffix rindex isascii isdecimal isnumeric istitle isidentifier isprintable".split()
+)
 
 
 def files():
@@ -41,6 +48,20 @@ def bound_at_module_level(tree):
         elif isinstance(row, ast.Assign):
             names.extend(target.id for target in row.targets)
     return names
+
+
+def own_methods():
+    return {row.name for _, node in nodes(ast.ClassDef) for row in node.body if isinstance(row, ast.FunctionDef)}
+
+
+def own_attributes():
+    return {node.attr for _, node in nodes(ast.Attribute) if isinstance(node.ctx, ast.Store)}
+
+
+def calls():
+    """Each call with its file and the name that is called."""
+    return [(path, node, getattr(node.func, "id", None) or getattr(node.func, "attr", None))
+            for path, node in nodes(ast.Call)]
 
 
 class Form(unittest.TestCase):
@@ -145,6 +166,81 @@ class Form(unittest.TestCase):
             for sign, right in zip(node.ops, node.comparators):
                 if isinstance(sign, (ast.Is, ast.IsNot)):
                     self.assertTrue(isinstance(right, ast.Constant) and right.value in (None, True, False), path)
+
+    def test_l5_l28_double_underscore_methods(self):
+        for path, node in nodes(ast.ClassDef):
+            special = {row.name: row for row in node.body
+                       if isinstance(row, ast.FunctionDef) and SPECIAL.fullmatch(row.name)}
+            self.assertLessEqual(set(special), {"__init__", "__eq__", "__repr__", "__len__"}, path)
+            for name in set(special) - {"__init__"}:
+                # One statement that returns changes nothing.
+                self.assertEqual([type(row) for row in special[name].body], [ast.Return], (path, name))
+            if "__len__" in special:
+                self.assertEqual(special["__len__"].body[0].value.func.id, "len")
+            if "__repr__" in special:
+                self.assertIsInstance(special["__repr__"].body[0].value, ast.JoinedStr)
+        for path, node in nodes(ast.FunctionDef):
+            self.assertEqual(node.decorator_list, [], path)
+
+    def test_l18_methods_and_attributes(self):
+        self.assertEqual(own_methods() & own_attributes(), set())
+        known = own_methods() | own_attributes() | OF_VALUES
+        for path, node in nodes(ast.Attribute):
+            self.assertIn(node.attr, known, (path, node.lineno))
+            if isinstance(node.ctx, ast.Store):
+                self.assertEqual(node.value.id, "self", (path, node.lineno))
+
+    def test_l25_l26_own_methods_are_not_called_like_those_of_values(self):
+        for name in own_methods() | own_attributes():
+            for value in ("", 0, [], {}, set(), b"", ()):
+                self.assertTrue(SPECIAL.fullmatch(name) or not hasattr(value, name), name)
+
+    def test_l22_no_keywords_beside_plain_calls(self):
+        for path, node, name in calls():
+            self.assertEqual([word.arg for word in node.keywords], [], (path, node.lineno))
+
+    def test_l4_plain_defaults(self):
+        for path, node in nodes(ast.arguments):
+            self.assertEqual((node.posonlyargs, node.kwonlyargs, node.vararg, node.kwarg), ([], [], None, None), path)
+            for default in node.defaults:
+                self.assertIsInstance(default, (ast.Constant, ast.Name), path)
+
+    def test_l19_errors_are_raised_by_name_and_nothing_is_caught(self):
+        self.assertEqual(nodes(ast.Try), [])
+        for path, node in nodes(ast.Raise):
+            self.assertIsInstance(node.exc, ast.Call, path)
+            self.assertIsInstance(node.exc.func, ast.Name, path)
+
+    def test_l24_sets_are_sorted_at_once(self):
+        self.assertEqual(nodes(ast.Set, ast.SetComp), [])
+        for path, tree in trees():
+            at_once = {id(node.args[0]) for node in ast.walk(tree)
+                       if isinstance(node, ast.Call) and getattr(node.func, "id", None) == "sorted"}
+            for node in ast.walk(tree):
+                if isinstance(node, ast.Call) and getattr(node.func, "id", None) == "set":
+                    self.assertIn(id(node), at_once, (path, node.lineno))
+
+    def test_l27_powers(self):
+        for path, node in nodes(ast.BinOp):
+            if isinstance(node.op, ast.Pow):
+                self.assertTrue(isinstance(node.right, ast.Constant) and 0 <= node.right.value <= 64, path)
+
+    def test_l22_own_functions_are_given_as_many_as_they_take(self):
+        for path, tree in trees():
+            taken = {row.name: row.args for row in tree.body if isinstance(row, ast.FunctionDef)}
+            for node in ast.walk(tree):
+                if isinstance(node, ast.Call) and getattr(node.func, "id", None) in taken:
+                    args = taken[node.func.id]
+                    most = len(args.args)
+                    self.assertTrue(most - len(args.defaults) <= len(node.args) <= most, (path, node.lineno))
+
+    def test_nothing_is_imported_that_is_not_used(self):
+        for path, tree in trees():
+            used = {node.id for node in ast.walk(tree) if isinstance(node, ast.Name)}
+            for row in tree.body:
+                if isinstance(row, ast.ImportFrom):
+                    for alias in row.names:
+                        self.assertIn(alias.name, used, (path, alias.name))
 
     def test_every_function_says_what_it_tells(self):
         for path, node in nodes(ast.FunctionDef, ast.ClassDef):

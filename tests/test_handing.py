@@ -8,13 +8,10 @@ from random import Random
 from outlasts.errors import NoBook, NoPlain
 from outlasts.handing import are_parcels, parcels, weights
 from outlasts.shares import share_at
-from things import PLAIN, Asked, bad_books, frac, late_forties, odd_things, plain_forties, random_plain_book
+from things import PLAIN, Asked, bad_books, frac, odd_things, plain_forties, random_plain_book, unplain
 
 PARCELS = [
     (0, 1, (1, 20)), (0, 2, (1, 20)), (0, 3, (1, 20)), (0, 4, (1, 20)), (2, 3, (1, 8)), (2, 4, (1, 8)), (4, 3, (3, 8)),
-]
-UNPLAIN = [
-    ((1, 7, 1),), ((0, 7, 1), (1, 7, 1)), ((6, 7, 0), (0, 7, 1)), ((998, 999, 0),), ((0, 9, 0),) * 39 + ((3, 9, 0),),
 ]
 # No one is cut off ahead of another one's until.
 NOTHING_HANDED = [
@@ -197,7 +194,7 @@ class AreParcels(Asked):
 
 class Refusals(Asked):
     def test_no_plain(self):
-        for book in UNPLAIN + late_forties():
+        for book in unplain():
             with self.subTest(book=book):
                 self.assert_refused(NoPlain, weights, book)
                 self.assert_refused(NoPlain, parcels, book)

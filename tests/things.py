@@ -44,6 +44,14 @@ def bad_books():
     return bad + odd_things()
 
 
+def unplain():
+    """Books that are not plain."""
+    return [
+        ((1, 7, 1),), ((0, 7, 1), (1, 7, 1)), ((6, 7, 0), (0, 7, 1)), ((998, 999, 0),),
+        ((0, 9, 0),) * 39 + ((3, 9, 0),), *late_forties(),
+    ]
+
+
 def bad_times():
     return [-1, -9_999, 10_000, 999_999_999_999, -999_999_999_999, "3", (3,), [3]] + odd_things()
 
